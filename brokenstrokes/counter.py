@@ -8,9 +8,15 @@ UNDO = 2
 MAY = 3
 LIKELY = 4
 GUESS = 5
+STROKE = 6
+SURE = 7
+NEXT = 8
+APART = 9
+SHOWN = 10
+STATE = 11
 
 # How many numbers stand behind each call's own number, ahead of its list if it has one.
-HANDED_NUMBERS = (1, 1, 0, 1, 1, 1)
+HANDED_NUMBERS = (1, 1, 0, 1, 1, 1, 2, 0, 1, 3, 2, 0)
 
 
 def end_of_call(calls, start):
@@ -34,7 +40,19 @@ def answer_to(counter, call, handed):
         return counter.may(handed[0])
     if call == LIKELY:
         return counter.likely(handed[0])
-    return counter.guess(handed[0])
+    if call == GUESS:
+        return counter.guess(handed[0])
+    if call == STROKE:
+        return counter.states_of(handed[0], handed[1])
+    if call == SURE:
+        return counter.sure()
+    if call == NEXT:
+        return counter.will_show(handed[0])
+    if call == APART:
+        return counter.apart(handed[0], handed[1], handed[2])
+    if call == SHOWN:
+        return counter.shown(handed[0], handed[1])
+    return counter.state()
 
 
 def answers(calls):

@@ -5,6 +5,9 @@ A picture is the strokes of all places as one number to the base 128, the
 leftmost place first, so that one bit operation takes all places at once.
 """
 
+STROKES = 7
+ALL_STROKES = 127
+
 # The strokes that each digit should light.
 DIGIT_STROKES = (119, 36, 93, 109, 46, 107, 123, 37, 127, 111)
 
@@ -29,6 +32,18 @@ def places_of(picture, digits):
         rest = rest // 128
     lit.reverse()
     return lit
+
+
+def whole_picture(digits):
+    """The picture of all strokes of all places."""
+    return picture_of([ALL_STROKES] * digits)
+
+
+def stroke_alone(place, stroke, digits):
+    """The picture of one stroke."""
+    lit = [0] * digits
+    lit[place] = 1 << stroke
+    return picture_of(lit)
 
 
 def should_light(count, digits):

@@ -1,8 +1,11 @@
-"""Promises 1 to 4 held against a model that tries every state of every stroke."""
+"""Promises 1 to 8 held against a model that tries every state of every stroke."""
 
 import unittest
 
-from tests.helper import Model, UNDO, ask, begins, guess, healthy, last, likely, may, sees
+from tests.helper import (
+    Model, STATE, SURE, UNDO, apart, ask, begins, behind, guess, healthy, last, likely, may, sees, shown, shows_next,
+    stroke_of
+)
 
 
 class Sequence:
@@ -46,19 +49,61 @@ def with_times(pairs):
     return found
 
 
+def line_ahead(digits, pairs):
+    """The calls that have these sights seen."""
+    return [begins(digits)] + [sees(seconds, lit) for seconds, lit in pairs]
+
+
 class ModelTest(unittest.TestCase):
     def assert_as_the_model(self, digits, pairs, numbers):
         model = Model(digits, with_times(pairs))
-        size = len(model.least_broken)
+        self.assert_numbers_as(model, pairs, numbers)
+        self.assert_strokes_as(model, pairs)
+        self.assert_later_as(model, pairs, numbers)
+        return model
+
+    def assert_numbers_as(self, model, pairs, numbers):
+        """Promises 1 to 4."""
+        size = len(model.fitting)
         ks = sorted({0, 1, size // 2, max(size - 1, 0), size, size + 1})
-        ahead = [begins(digits)] + [sees(seconds, lit) for seconds, lit in pairs]
-        probes = [may(k) for k in ks] + [likely(k) for k in ks] + [guess(number) for number in numbers]
-        told = ask(*ahead, *probes)
-        self.assertEqual(told[len(pairs)], [size if pairs else 10 ** digits])
+        ahead = line_ahead(model.digits, pairs)
+        told = ask(*ahead, *[may(k) for k in ks], *[likely(k) for k in ks], *[guess(number) for number in numbers])
+        self.assertEqual(told[len(pairs)], [size])
         expected = [model.may(k) for k in ks] + [model.likely(k) for k in ks]
         expected += [model.guess(number) for number in numbers]
         self.assertEqual(told[len(ahead):], expected)
-        return model
+
+    def assert_strokes_as(self, model, pairs):
+        """Promise 5, and state."""
+        strokes = [(place, stroke) for place in range(model.digits) for stroke in range(7)]
+        told = behind(line_ahead(model.digits, pairs), SURE, STATE, *[stroke_of(*stroke) for stroke in strokes])
+        expected = [model.stroke(*stroke) for stroke in strokes]
+        self.assertEqual(told, [model.sure(), model.state()] + expected)
+        # No sight is both, so a stroke that's broken in all explanations has one state in all of them.
+        self.assertNotIn([2, 2, 1, 2], expected)
+
+    def assert_later_as(self, model, pairs, numbers):
+        """Promises 6 to 8."""
+        waits = (0, 1, 9, 57, 9999, 10000)
+        may_begin = sorted(model.fitting)
+        some = may_begin[:3] + may_begin[-2:] + list(numbers)[:2]
+        two = [(number, other, wait) for number in some for other in some for wait in (0, 1, 37)][:60]
+        ahead = line_ahead(model.digits, pairs)
+        told = behind(ahead, *[shows_next(wait) for wait in waits], *[shown(number, 83) for number in some])
+        self.assertEqual(told, [model.next(wait) for wait in waits] + [model.shown(number, 83) for number in some])
+        self.assertEqual(behind(ahead, *[apart(*three) for three in two]), [model.apart(*three) for three in two])
+
+    def assert_apart_by_trying_each_sight(self, pairs, seconds):
+        """Promise 7 for a counter of one digit, by its words."""
+        sights = with_times(pairs)
+        now = sights[-1][0] if sights else 0
+        left = [Model(1, sights + [(now + seconds, [lit])]).fitting for lit in range(128)]
+        may_begin = sorted(Model(1, sights).fitting)
+        two = [(number, other) for number in may_begin for other in may_begin if number < other]
+        told = behind(line_ahead(1, pairs), *[apart(number, other, seconds) for number, other in two])
+        self.assertEqual(told, [[int(not any(number in numbers and other in numbers for numbers in left))]
+                                for number, other in two])
+        return told
 
     def test_counters_of_one_digit(self):
         sequence = Sequence(1)
@@ -66,7 +111,7 @@ class ModelTest(unittest.TestCase):
             number = sequence.below(10)
             pairs = sights_of(sequence, 1, number, turn % 9)
             model = self.assert_as_the_model(1, pairs, range(10))
-            self.assertIn(number, model.least_broken)
+            self.assertIn(number, model.fitting)
 
     def test_counters_of_two_digits(self):
         sequence = Sequence(2)
@@ -74,7 +119,7 @@ class ModelTest(unittest.TestCase):
             number = sequence.below(100)
             pairs = sights_of(sequence, 2, number, turn % 9)
             model = self.assert_as_the_model(2, pairs, [number] + list(range(0, 100, 3)))
-            self.assertIn(number, model.least_broken)
+            self.assertIn(number, model.fitting)
 
     def test_counters_of_three_digits(self):
         sequence = Sequence(3)
@@ -82,7 +127,7 @@ class ModelTest(unittest.TestCase):
             number = sequence.below(1000)
             pairs = sights_of(sequence, 3, number, turn)
             model = self.assert_as_the_model(3, pairs, [number] + list(range(0, 1000, 23)))
-            self.assertIn(number, model.least_broken)
+            self.assertIn(number, model.fitting)
 
     def test_sights_of_no_counter(self):
         sequence = Sequence(4)
@@ -92,7 +137,7 @@ class ModelTest(unittest.TestCase):
             pairs = [(sequence.below(4), [127 ^ (1 << sequence.below(7)) for place in range(digits)])
                      for sight in range(turn % 4)]
             model = self.assert_as_the_model(digits, pairs, range(10))
-            unexplained += not model.least_broken
+            unexplained += not model.fitting
         self.assertTrue(20 < unexplained < 100, unexplained)
 
     def test_every_two_sights_of_one_place(self):
@@ -100,10 +145,21 @@ class ModelTest(unittest.TestCase):
             for second in range(0, 128, 3):
                 self.assert_as_the_model(1, [(0, [first]), (1, [second])], range(10))
 
+    def test_every_sight_that_may_come_tells_whether_two_are_apart(self):
+        sequence = Sequence(7)
+        told = []
+        for turn in range(27):
+            pairs = sights_of(sequence, 1, sequence.below(10), turn % 9)
+            told += self.assert_apart_by_trying_each_sight(pairs, sequence.below(12))
+        told += self.assert_apart_by_trying_each_sight([(0, [0]), (1, [8])], 1)
+        told += self.assert_apart_by_trying_each_sight([(0, [0]), (1, [8])] + [(0, [8])] * 6, 2)
+        self.assertIn([0], told)
+        self.assertIn([1], told)
+
     def test_undo_goes_back_through_all_sights(self):
         sequence = Sequence(5)
         pairs = sights_of(sequence, 2, 95, 8)
-        ahead = [begins(2)] + [sees(seconds, lit) for seconds, lit in pairs]
+        ahead = line_ahead(2, pairs)
         for left in range(8, -1, -1):
             told = ask(*ahead, *[UNDO] * (8 - left), likely(0), sees(7, [36, 119]), may(0))
             model = Model(2, with_times(pairs[:left]))

@@ -2,9 +2,9 @@
 
 import unittest
 
-from tests.helper import GREATEST, UNDO, ask, begins, guess, healthy, last, likely, may, sees, strokes_of
-
-NOTHING_EXPLAINS = (sees(0, [0]), sees(0, [1]))
+from tests.helper import (
+    GREATEST, NOTHING_EXPLAINS, UNDO, ask, begins, guess, healthy, last, likely, may, sees, strokes_of
+)
 
 
 class MayTest(unittest.TestCase):

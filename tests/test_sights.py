@@ -2,13 +2,11 @@
 
 import unittest
 
-from tests.helper import GREATEST, UNDO, ask, begins, guess, healthy, last, likely, may, sees
+from tests.helper import GREATEST, UNDO, ask, begins, healthy, last, likely, may, sees
 
 # A counter of one digit that shows 0, and 1 a second later.
 SHOWS_0 = sees(3, [119])
 THEN_1 = sees(1, [36])
-
-PROBES = (may(0), may(1), likely(0), guess(7), sees(1, [93]), may(0), UNDO, UNDO, UNDO)
 
 
 class BeginsTest(unittest.TestCase):
@@ -125,38 +123,6 @@ class UndoTest(unittest.TestCase):
     def test_forgets_eight_sights_one_by_one(self):
         told = ask(*[sees(1, [0])] * 8, *[UNDO] * 9)
         self.assertEqual(told[8:], [[7], [6], [5], [4], [3], [2], [1], [0], [-4]])
-
-
-class RefusedTest(unittest.TestCase):
-    def assert_as_before(self, ahead, refused, code):
-        told = ask(*ahead, refused, *PROBES)
-        self.assertEqual(told[len(ahead)], [code])
-        self.assertEqual(told[len(ahead) + 1:], ask(*ahead, *PROBES)[len(ahead):])
-
-    def test_all_is_as_it_was(self):
-        ahead = (SHOWS_0, THEN_1)
-        for refused in (begins(0), begins(4), sees(10001, [127]), sees(2, [128]), sees(2, []), sees(2, [1, 1])):
-            self.assert_as_before(ahead, refused, -1)
-        self.assert_as_before(ahead, guess(10), -2)
-        self.assert_as_before(ahead, guess(8), -6)
-
-    def test_all_is_as_it_was_with_two_digits(self):
-        ahead = (begins(2), sees(1, [119, 119]))
-        for refused in (begins(0), begins(GREATEST), sees(5, [127]), sees(5, [36, 128])):
-            self.assert_as_before(ahead, refused, -1)
-        self.assert_as_before(ahead, guess(100), -2)
-
-    def test_all_is_as_it_was_with_nothing_seen(self):
-        self.assert_as_before((), UNDO, -4)
-        self.assert_as_before((begins(3),), UNDO, -4)
-
-    def test_all_is_as_it_was_with_eight_sights(self):
-        self.assert_as_before([SHOWS_0] + [sees(10, [119])] * 7, sees(1, [36]), -5)
-
-    def test_all_is_as_it_was_without_explanation(self):
-        ahead = (sees(0, [0]), sees(0, [1]))
-        self.assert_as_before(ahead, likely(0), -6)
-        self.assert_as_before(ahead, guess(0), -6)
 
 
 if __name__ == "__main__":
